@@ -1,0 +1,1 @@
+"""The weights and the order of terms, literals and clauses."""

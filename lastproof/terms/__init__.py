@@ -1,0 +1,1 @@
+"""Symbols, terms, substitutions, places, literals and clauses."""
