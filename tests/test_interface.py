@@ -29,6 +29,23 @@ FUNCTIONS = {
         "symbol_weight": ["weights", "symbol"], "term_weight": ["weights", "term"],
         "literal_weight": ["weights", "literal"], "clause_weight": ["weights", "clause"],
     },
+    "lastproof.order.ordering": {
+        "greater": ["weights", "first", "second"], "compare": ["weights", "first", "second"],
+    },
+    "lastproof.order.multisets": {
+        "literal_greater": ["weights", "first", "second"], "clause_greater": ["weights", "first", "second"],
+        "is_greatest": ["weights", "clause", "k"], "is_greatest_alone": ["weights", "clause", "k"],
+    },
+    "lastproof.unify.unifying": {"unify": ["pairs"]},
+    "lastproof.unify.matching": {"match": ["pattern", "term", "told"]},
+    "lastproof.texts.writing": {
+        "symbol_text": ["symbol", "names"], "term_text": ["term", "names"], "literal_text": ["literal", "names"],
+        "clause_text": ["clause", "names"],
+    },
+    "lastproof.texts.reading": {
+        "read_term": ["text", "names"], "read_atom_or_term": ["text", "names"], "read_clause": ["text", "names"],
+    },
+    "lastproof.formulas.tokens": {"tokens": ["line_text", "line"]},
 }
 
 

@@ -161,7 +161,7 @@ class WordsTest(unittest.TestCase):
                     stored = [node.name]
                 for name in [name for name in stored if name not in DOUBLE]:
                     self.assertNotIn(name, BUILTINS | NOT_NAMES | set(dir(builtins)), path)
-                    self.assertRegex(name, "^_?[A-Za-z]", path)
+                    self.assertRegex(name, "^(_|_?[A-Za-z].*)$", path)
                     if not isinstance(node, ast.ClassDef):
                         self.assertNotIn(name, at_top, path)
 

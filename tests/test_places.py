@@ -58,6 +58,7 @@ class AtTest(unittest.TestCase):
         term = f(g(0, A), 1)
         for place in [(2,), (0, 2), (0, 0, 0), (0, 1, 0), (1, 0), (5, 0), (0, 5, 0)]:
             self.assertIsNone(at(term, place), place)
+        self.assertIsNone(at(term, (-1,)))
         self.assertIsNone(at(A, (0,)))
         self.assertIsNone(at(7, (0,)))
         self.assertIsNone(at(7, (7, 7)))
@@ -88,6 +89,7 @@ class PutAtTest(unittest.TestCase):
         term = f(g(0, A), 1)
         for place in [(2,), (0, 2), (0, 0, 0), (0, 1, 0), (1, 0)]:
             self.assertEqual(put_at(term, place, B), term, place)
+        self.assertEqual(put_at(term, (-1,), B), term)
         self.assertEqual(put_at(7, (0,), B), 7)
         self.assertEqual(put_at(A, (0,), B), A)
 

@@ -1,0 +1,1 @@
+"""Unification and matching of terms."""
