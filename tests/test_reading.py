@@ -122,6 +122,10 @@ class TermsTest(unittest.TestCase):
         read_atom_or_term("q(a)", names)
         read_clause("q(a) or a = f(a)", names)
         self.assertEqual(names, NAMES)
+        for reading in (read_term, read_atom_or_term, read_clause):
+            with self.assertRaises((NoTerm, NoClause)):
+                reading("unknown(a)", names)
+            self.assertEqual(names, NAMES)
 
 
 def random_literal(source):
