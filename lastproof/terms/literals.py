@@ -67,3 +67,13 @@ def renumbered(clause):
     """Return the renumbered clause, and the dict from its variables to their new numbers."""
     numbering = {variable: k for k, variable in enumerate(clause_variables(clause))}
     return (put_clause(clause, numbering), numbering)
+
+
+def with_literal(clause, k, literal):
+    """Return the clause with the literal in place of the one with the index k."""
+    return clause[:k] + (literal,) + clause[k + 1:]
+
+
+def without_literal(clause, k):
+    """Return the clause without the literal with the index k."""
+    return clause[:k] + clause[k + 1:]

@@ -1,0 +1,1 @@
+"""Derivations, their judge and what is read off them."""

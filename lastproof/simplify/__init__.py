@@ -1,0 +1,1 @@
+"""Simplification of clauses."""
