@@ -46,6 +46,41 @@ FUNCTIONS = {
         "read_term": ["text", "names"], "read_atom_or_term": ["text", "names"], "read_clause": ["text", "names"],
     },
     "lastproof.formulas.tokens": {"tokens": ["line_text", "line"]},
+    "lastproof.formulas.parsing": {"parse_formula": ["items", "end", "names"]},
+    "lastproof.formulas.formulas": {"free_variables": ["formula"]},
+    "lastproof.formulas.meaning": {
+        "holds": ["formula", "world"], "clause_holds": ["clause", "world"], "uses_of": ["formulas"],
+    },
+    "lastproof.clauses.clausing": {"clauses_of": ["number", "formula"]},
+    "lastproof.clauses.naming": {"named": ["number", "formula"]},
+    "lastproof.clauses.inward": {"inward": ["formula", "positive"]},
+    "lastproof.infer.acting": {
+        "may_act": ["weights", "clause", "selected", "k", "substitution"],
+        "may_give": ["weights", "clause", "selected", "k", "substitution"],
+        "may_lead": ["weights", "literal", "side_index", "substitution"],
+    },
+    "lastproof.infer.superposing": {"superpositions": ["weights", "c", "selected_c", "d", "selected_d"]},
+    "lastproof.simplify.cleaning": {"cleaned": ["clause"], "always_holds": ["clause"]},
+    "lastproof.derivations.steps": {
+        "conclude": ["given", "lines", "step"], "check": ["given", "steps"], "refutes": ["given", "steps"],
+        "resting": ["steps", "count"],
+    },
+    "lastproof.derivations.questions": {
+        "sought": ["formula"], "question_axiom": ["number", "formula"], "answers": ["given", "number", "steps"],
+    },
+    "lastproof.problems.reading": {"read_problem": ["text"], "edited": ["problem", "text"]},
+}
+
+# Each class with the arguments that it is called with, and the arguments of its methods.
+CLASSES = {
+    ("lastproof.formulas.worlds", "World"): (["size", "tables"], {}),
+    ("lastproof.infer.conclusions", "Conclusion"): (
+        ["kind", "clause", "literal", "side", "place", "other_literal", "other_side", "first", "second"], {}),
+    ("lastproof.problems.problem", "Told"): (["name", "number", "kind", "formula", "line"], {}),
+    ("lastproof.problems.problem", "Problem"): (["names", "heavy", "told", "next_number"], {
+        "symbol_weights": [], "held": [], "given_clauses": [], "against": [], "question_told": [],
+        "name_of": ["number"], "as_text": [],
+    }),
 }
 
 
@@ -57,3 +92,11 @@ class InterfaceTest(unittest.TestCase):
                 told = getattr(module, name)
                 self.assertEqual(told.__module__, module_name, name)
                 self.assertEqual(list(inspect.signature(told).parameters), parameters, name)
+
+    def test_each_class_stands_in_its_file_with_its_methods(self):
+        for (module_name, class_name), (parameters, methods) in CLASSES.items():
+            told = getattr(importlib.import_module(module_name), class_name)
+            self.assertEqual(told.__module__, module_name)
+            self.assertEqual(list(inspect.signature(told).parameters), parameters, class_name)
+            for name, arguments in methods.items():
+                self.assertEqual(list(inspect.signature(vars(told)[name]).parameters), ["self"] + arguments, name)

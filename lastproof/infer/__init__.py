@@ -1,0 +1,1 @@
+"""Conclusions from clauses."""

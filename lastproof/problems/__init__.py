@@ -1,0 +1,1 @@
+"""Problems and their texts."""
