@@ -4,36 +4,13 @@ import unittest
 from lastproof.formulas.meaning import clause_holds
 from lastproof.simplify.cleaning import always_holds, cleaned
 from tests.formula_samples import random_world, uses_of_clauses
+from tests.plain_conclusions import naive_always, naive_cleaned
 from tests.samples import A, B, TRUTH, f, p, q, random_clause
 
 EQ, SWAPPED = (True, A, f(0)), (True, f(0), A)
 NE, SWAPPED_NE = (False, A, f(0)), (False, f(0), A)
 P, NOT_P = (True, p(0), TRUTH), (False, p(0), TRUTH)
 Q = (True, q(), TRUTH)
-
-
-def is_same(first, second):
-    return first[0] == second[0] and (first[1:] == second[1:] or first[1:] == second[:0:-1])
-
-
-def naive_cleaned(clause):
-    kept = []
-    for k, literal in enumerate(clause):
-        never = not literal[0] and literal[1] == literal[2]
-        if not never and not any(is_same(literal, later) for later in clause[k + 1:]):
-            kept.append(literal)
-    return tuple(kept)
-
-
-def naive_always(clause):
-    for i in range(len(clause)):
-        for j in range(len(clause)):
-            one, two = clause[i], clause[j]
-            if i == j and one[0] and one[1] == one[2]:
-                return (i, j)
-            if one[0] != two[0] and set(one[1:]) == set(two[1:]):
-                return (i, j)
-    return None
 
 
 def crowded_clause(source):

@@ -60,6 +60,13 @@ FUNCTIONS = {
         "may_lead": ["weights", "literal", "side_index", "substitution"],
     },
     "lastproof.infer.superposing": {"superpositions": ["weights", "c", "selected_c", "d", "selected_d"]},
+    "lastproof.infer.resolving": {"resolutions": ["weights", "c", "selected"]},
+    "lastproof.infer.factoring": {"factorings": ["weights", "c", "selected"]},
+    "lastproof.simplify.parts": {"part_of": ["c", "d"]},
+    "lastproof.simplify.rewriting": {"rewrite": ["weights", "equation", "clause"]},
+    "lastproof.reasoner.settling": {
+        "settle": ["weights", "chosen", "clause"], "first_part": ["kept", "clause"], "is_lighter": ["clause", "other"],
+    },
     "lastproof.simplify.cleaning": {"cleaned": ["clause"], "always_holds": ["clause"]},
     "lastproof.derivations.steps": {
         "conclude": ["given", "lines", "step"], "check": ["given", "steps"], "refutes": ["given", "steps"],
@@ -67,6 +74,22 @@ FUNCTIONS = {
     },
     "lastproof.derivations.questions": {
         "sought": ["formula"], "question_axiom": ["number", "formula"], "answers": ["given", "number", "steps"],
+    },
+    "lastproof.derivations.notation": {
+        "derivation_text": ["steps", "names"], "read_derivation": ["text", "names"],
+    },
+    "lastproof.derivations.growing": {
+        "needed": ["reasoner", "number"], "derive": ["reasoner", "number"], "axioms_below": ["reasoner", "number"],
+    },
+    "lastproof.derivations.saturated": {
+        "shows": ["weights", "pairs", "clause"], "accepts_set": ["weights", "pairs"], "set_text": ["pairs", "names"],
+        "read_set": ["text", "names"],
+    },
+    "lastproof.derivations.searching": {"accepts_world": ["world", "formulas"], "find_world": ["formulas", "size"]},
+    "lastproof.derivations.tables": {"world_text": ["world", "names"], "read_world": ["text", "names", "uses"]},
+    "lastproof.problems.judges": {
+        "clauses_of_problem": ["text"], "judge_derivation": ["problem", "derivation"], "judge_set": ["problem", "text"],
+        "judge_world": ["problem", "text"], "compare_terms": ["problem", "first", "second"],
     },
     "lastproof.problems.reading": {"read_problem": ["text"], "edited": ["problem", "text"]},
 }
@@ -76,6 +99,19 @@ CLASSES = {
     ("lastproof.formulas.worlds", "World"): (["size", "tables"], {}),
     ("lastproof.infer.conclusions", "Conclusion"): (
         ["kind", "clause", "literal", "side", "place", "other_literal", "other_side", "first", "second"], {}),
+    ("lastproof.simplify.rewriting", "Rewriting"): (
+        ["clause", "literal", "side", "place", "equation_side", "substitution"], {}),
+    ("lastproof.reasoner.kept", "Kept"): (["number", "clause", "selected", "made", "changes"], {}),
+    ("lastproof.reasoner.kept", "Gone"): (["kept", "changes", "reason"], {}),
+    ("lastproof.reasoner.reasoner", "Reasoner"): (["weights", "given"], {
+        "choose": ["number", "literal"], "suggestion": [], "run": ["count"], "status": [], "turn": ["weights", "given"],
+        "find": ["number"], "everything": [],
+    }),
+    ("lastproof.problems.session", "Session"): (["text"], {
+        "edit": ["text"], "undo": [], "redo": [], "choose": ["number", "literal"], "run": ["count"], "suggestion": [],
+        "status": [], "numbers": [], "describe": ["number"], "problem_text": [], "derivation": [],
+        "derivation_of": ["number"], "saturated_set": [], "answer_rows": [], "small_world": ["size"],
+    }),
     ("lastproof.problems.problem", "Told"): (["name", "number", "kind", "formula", "line"], {}),
     ("lastproof.problems.problem", "Problem"): (["names", "heavy", "told", "next_number"], {
         "symbol_weights": [], "held": [], "given_clauses": [], "against": [], "question_told": [],

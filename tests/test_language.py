@@ -31,6 +31,11 @@ METHODS = set(
     "items join keys ljust lower lstrip partition pop remove replace reverse rfind rjust rpartition rsplit rstrip "
     "setdefault split splitlines startswith strip update upper values zfill bit_length sort add discard".split()
 )
+NOT_ATTRIBUTES = set(
+    "items keys values pop update append clear extend insert remove reverse setdefault sort args encode decode hex "
+    "fromhex format format_map mro as_integer_ratio bit_count conjugate from_bytes is_integer to_bytes real imag "
+    "numerator denominator".split()
+)
 DOUBLE = ("__init__", "__eq__", "__repr__", "__str__", "__len__", "__call__", "__iter__")
 STATEMENTS = (ast.Global, ast.AsyncFunctionDef, ast.AsyncFor, ast.AsyncWith, ast.Await, ast.Import)
 
@@ -193,6 +198,22 @@ class WordsTest(unittest.TestCase):
                     word = getattr(node, field, None)
                     if isinstance(word, str):
                         self.assertIsNone(NOT_WORDS.search(word), (path, word))
+
+    def test_attributes(self):
+        for path, tree in trees():
+            for node in [node for node in ast.walk(tree) if isinstance(node, ast.ClassDef)]:
+                methods = [one.name for one in node.body if isinstance(one, ast.FunctionDef)]
+                self.assertEqual(len(methods), len(set(methods)), path)
+                stored = {one.attr for one in ast.walk(node) if isinstance(one, ast.Attribute)
+                          and isinstance(one.ctx, ast.Store)}
+                self.assertFalse(stored & (set(methods) | NOT_ATTRIBUTES), path)
+        stored = {one.attr for _, tree in trees() for one in ast.walk(tree) if isinstance(one, ast.Attribute)
+                  and isinstance(one.ctx, ast.Store)}
+        called = {node.name for _, tree in trees() for node in ast.walk(tree) if isinstance(node, ast.FunctionDef)}
+        for path, tree in trees():
+            for node in ast.walk(tree):
+                if isinstance(node, ast.Attribute) and isinstance(node.ctx, ast.Load):
+                    self.assertIn(node.attr, stored | called | METHODS | {"__init__"}, (path, node.lineno))
 
     def test_escapes(self):
         for path in files():

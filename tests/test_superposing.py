@@ -1,4 +1,3 @@
-import itertools
 import random
 import unittest
 
@@ -6,14 +5,11 @@ from lastproof.formulas.meaning import clause_holds
 from lastproof.infer.acting import may_act, may_give, may_lead
 from lastproof.infer.conclusions import Conclusion
 from lastproof.infer.superposing import superpositions
-from lastproof.order.multisets import is_greatest, is_greatest_alone
-from lastproof.order.ordering import compare
 from lastproof.terms.literals import clause_variables, is_well_formed, renumbered
-from lastproof.terms.places import places, put_at
-from lastproof.terms.substitutions import put, put_clause, shifted_clause
-from lastproof.terms.terms import is_atom, variables
-from lastproof.unify.unifying import unify
+from lastproof.terms.places import put_at
+from lastproof.terms.substitutions import put_clause
 from tests.formula_samples import random_world, uses_of_clauses
+from tests.plain_conclusions import as_tuples, naive_conditions, naive_superpositions, small_clause
 from tests.samples import A, B, F, G, H, P, TRUTH, f, g, p, q, random_clause
 
 
@@ -123,55 +119,6 @@ class ActingTest(unittest.TestCase):
         may_give(weights, (yes(p(0)),), None, 0, substitution)
         may_lead(weights, yes(p(0)), 0, substitution)
         self.assertEqual((weights, substitution), ({A[0]: 2}, {0: A}))
-
-
-def naive_conditions(weights, clause, selected, k, s, substitution):
-    """Whether the literal may act, whether it may give, and whether its side may lead."""
-    instance = put_clause(clause, substitution)
-    acts = selected == k or selected is None and is_greatest(weights, instance, k)
-    gives = instance[k][0] and selected is None and is_greatest_alone(weights, instance, k)
-    order = compare(weights, instance[k][1 + s], instance[k][2 - s])
-    return acts, gives, order in ("greater", None)
-
-
-def naive_superpositions(weights, c, selected_c, d, selected_d):
-    """The conclusions as tuples, without any short cut."""
-    found = []
-    amount = 1000
-    own = shifted_clause(d, amount)
-    for k, s in itertools.product(range(len(c)), (0, 1)):
-        for place, u in places(c[k][1 + s]):
-            for by, by_side in itertools.product(range(len(d)), (0, 1)):
-                leading, other = own[by][1 + by_side], own[by][2 - by_side]
-                if isinstance(u, int) or not own[by][0] or is_atom(u) != is_atom(leading):
-                    continue
-                substitution = unify([(u, leading)])
-                if substitution is None:
-                    continue
-                acts, _, leads = naive_conditions(weights, c, selected_c, k, s, substitution)
-                _, gives, other_leads = naive_conditions(weights, own, selected_d, by, by_side, substitution)
-                if not (acts and leads and gives and other_leads):
-                    continue
-                sides = list(c[k][1:])
-                sides[s] = put_at(sides[s], place, other)
-                literals = list(c)
-                literals[k] = (c[k][0],) + tuple(sides)
-                clause = put_clause(tuple(literals) + own[:by] + own[by + 1:], substitution)
-                first = {v: put(v, substitution) for v in clause_variables(c)}
-                second = {v: put(v + amount, substitution) for v in clause_variables(d)}
-                order = clause_variables(clause)
-                for term in list(first.values()) + list(second.values()):
-                    order += [v for v in variables(term) if v not in order]
-                new = {v: n for n, v in enumerate(order)}
-                first = [(v, put(term, new)) for v, term in first.items()]
-                second = [(v, put(term, new)) for v, term in second.items()]
-                found.append(("superposition", put_clause(clause, new), k, s, place, by, by_side, first, second))
-    return found
-
-
-def as_tuples(conclusions):
-    return [(e.kind, e.clause, e.literal, e.side, e.place, e.other_literal, e.other_side, list(e.first.items()),
-             list(e.second.items())) for e in conclusions]
 
 
 class ConclusionTest(unittest.TestCase):
@@ -405,24 +352,6 @@ class SuperpositionsTest(unittest.TestCase):
                     many += len(found)
                     self.assertTrue(all(clause_holds(e.clause, world) for e in found))
         self.assertGreater(many, 100)
-
-
-def small_term(source, depth):
-    if depth == 0 or source.random() < 0.3:
-        return source.choice([0, 1, 2, A, B])
-    return source.choice([f, f, g])(*[small_term(source, depth - 1) for _ in range(source.choice([1, 1, 1, 2]))])
-
-
-def small_clause(source):
-    """A clause of few symbols, so that many terms can be unified."""
-    literals = []
-    for _ in range(source.choice([1, 1, 2, 2, 3])):
-        positive = source.random() < 0.65
-        if source.random() < 0.4:
-            literals.append((positive, source.choice([p, p, q])(small_term(source, 2)), TRUTH))
-        else:
-            literals.append((positive, small_term(source, 2), small_term(source, 2)))
-    return tuple(literals)
 
 
 def as_rows(weights, c, d):

@@ -3,7 +3,7 @@
 from lastproof.formulas.formulas import basic_parts
 from lastproof.terms.literals import clause_variables
 from lastproof.terms.symbols import TRUTH
-from lastproof.terms.terms import is_variable, subterms
+from lastproof.terms.terms import is_variable, subterms, use_of
 
 
 def holds(formula, world):
@@ -32,7 +32,7 @@ def uses_of(formulas):
             for term in part[1:]:
                 for here in subterms(term):
                     if not is_variable(here) and here != TRUTH:
-                        found[(here[0], len(here[1]))] = True
+                        found[use_of(here)] = True
     return list(found)
 
 
@@ -73,11 +73,14 @@ def value_of(term, world, individuals):
         return individuals[term]
     if term == TRUTH:
         return 1
-    symbol, arguments = term
+    table = world.tables.get(use_of(term))
+    # The judge of worlds takes the value 0 where a table is missing.
+    if table is None:
+        return 0
     place = 0
-    for argument in arguments:
+    for argument in term[1]:
         place = place * world.size + value_of(argument, world, individuals)
-    return world.tables[(symbol, len(arguments))][place]
+    return table[place]
 
 
 def literal_holds(literal, world, individuals):

@@ -20,6 +20,11 @@ class Conclusion:
         self.second = dict(second)
 
 
+def variable_instances(variables_listed, substitution, amount):
+    """Return the dict from the variables to the instances of the variables that are greater by the amount."""
+    return {variable: put(variable + amount, substitution) for variable in variables_listed}
+
+
 def in_new_numbers(clause, first, second):
     """Return the renumbered clause and the two dicts of what variables became, in the new numbers."""
     changed, numbering = renumbered(clause)

@@ -46,19 +46,26 @@ def variables(term):
     return list(found)
 
 
-def has_individual_symbol(term):
-    """Tell whether the symbol of the compound is a function or a Skolem function."""
-    return term[0][0] in (FUNCTION_KIND, SKOLEM_KIND)
+def use_of(term):
+    """Return the symbol of a compound with the number of its arguments, or None for a variable."""
+    if is_variable(term):
+        return None
+    return (term[0], len(term[1]))
+
+
+def is_individual_symbol(symbol):
+    """Tell whether the symbol is a function or a Skolem function."""
+    return symbol[0] in (FUNCTION_KIND, SKOLEM_KIND)
 
 
 def is_atom(term):
     """Tell whether the term is a compound of truth, a predicate, a part name or an answer."""
-    return not is_variable(term) and not has_individual_symbol(term)
+    return not is_variable(term) and not is_individual_symbol(term[0])
 
 
 def is_individual(term):
     """Tell whether the term contains only variables, functions and Skolem functions."""
-    return all(is_variable(here) or has_individual_symbol(here) for here in subterms(term))
+    return all(is_variable(here) or is_individual_symbol(here[0]) for here in subterms(term))
 
 
 def is_atomic(term):

@@ -1,20 +1,20 @@
 """Matching of terms."""
 
-from lastproof.terms.terms import is_variable
-
 
 def match(pattern, term, told):
     """Return told and the further variables of the pattern with their terms, or None if none fit."""
     found = {variable: told[variable] for variable in told}
-    # The last pair is taken first, so that the pattern is read from left to right.
-    todo = [(pattern, term)]
-    while todo:
-        here, there = todo.pop()
-        if is_variable(here):
-            if found.setdefault(here, there) != there:
-                return None
-        elif is_variable(there) or here[0] != there[0] or len(here[1]) != len(there[1]):
-            return None
-        else:
-            todo.extend(list(zip(here[1], there[1]))[::-1])
-    return found
+    return found if fits(pattern, term, found) else None
+
+
+def fits(pattern, term, found):
+    """Tell whether the pattern matches with what was found, and add its further variables, from left to right."""
+    # Most of the time of the program is spent here, so variables are recognized without a further call.
+    if isinstance(pattern, int):
+        return found.setdefault(pattern, term) == term
+    if isinstance(term, int) or pattern[0] != term[0] or len(pattern[1]) != len(term[1]):
+        return False
+    for argument, other in zip(pattern[1], term[1]):
+        if not fits(argument, other, found):
+            return False
+    return True

@@ -1,0 +1,1 @@
+"""The reasoner and the clauses that it holds."""
