@@ -83,21 +83,21 @@ class Grounding:
             for one in range(self.size):
                 self.require(formula[2], False, {**individuals, formula[1]: one})
         else:
-            self.add_clause(self.choices(formula, positive, individuals))
+            self.add_clause(self.alternatives(formula, positive, individuals))
 
-    def choices(self, formula, positive, individuals):
+    def alternatives(self, formula, positive, individuals):
         """Return literals of which at least one holds exactly if the plain formula holds, or does not hold."""
         word = formula[0]
         if word == "not":
-            return self.choices(formula[1], not positive, individuals)
+            return self.alternatives(formula[1], not positive, individuals)
         if word == "or" and positive:
-            found = self.choices(formula[1], True, individuals)
-            return found if HOLDS in found else found + self.choices(formula[2], True, individuals)
+            found = self.alternatives(formula[1], True, individuals)
+            return found if HOLDS in found else found + self.alternatives(formula[2], True, individuals)
         if word == "some" and positive:
             found = []
             for one in range(self.size):
                 if HOLDS not in found:
-                    found.extend(self.choices(formula[2], True, {**individuals, formula[1]: one}))
+                    found.extend(self.alternatives(formula[2], True, {**individuals, formula[1]: one}))
             return found
         literal = self.literal_of(formula, individuals)
         return [literal if positive else -literal]
@@ -115,7 +115,7 @@ class Grounding:
             return -self.literal_of(formula[1], individuals)
         if word == "iff":
             return self.alike(self.literal_of(formula[1], individuals), self.literal_of(formula[2], individuals))
-        return self.one_of(self.choices(formula, True, individuals))
+        return self.one_of(self.alternatives(formula, True, individuals))
 
     def one_of(self, literals):
         """Return a literal that holds exactly if one of the literals holds."""

@@ -13,7 +13,7 @@ def part_by(c, d):
     """Return the same for the profiles of two clauses."""
     if not c.may_be_part_of(d):
         return None
-    return Fitting(c, d).first()
+    return Fitting(c, d).first_way()
 
 
 class Fitting:
@@ -30,7 +30,7 @@ class Fitting:
         self.tried = [0]
         self.blocked = [{}]
 
-    def first(self):
+    def first_way(self):
         """Return the first substitution and indexes, or None."""
         while len(self.indexes) < len(self.literals):
             k = len(self.indexes)
