@@ -36,6 +36,22 @@ def q(*arguments):
     return (Q, arguments)
 
 
+def yes(term):
+    return (True, term, TRUTH)
+
+
+def no(term):
+    return (False, term, TRUTH)
+
+
+def eq(left, right):
+    return (True, left, right)
+
+
+def ne(left, right):
+    return (False, left, right)
+
+
 def chain(depth, end):
     """The term f(f(.. end ..)) with this many functions."""
     term = end

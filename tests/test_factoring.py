@@ -7,25 +7,9 @@ from lastproof.terms.literals import clause_variables, is_well_formed, renumbere
 from lastproof.terms.substitutions import put_clause
 from tests.formula_samples import random_world, uses_of_clauses
 from tests.plain_conclusions import as_tuples, naive_factorings, small_clause
-from tests.samples import A, B, F, TRUTH, f, g, p, q
+from tests.samples import A, B, F, TRUTH, eq, f, g, ne, no, p, q, yes
 
 NOT_TRUTH = (False, TRUTH, TRUTH)
-
-
-def yes(term):
-    return (True, term, TRUTH)
-
-
-def no(term):
-    return (False, term, TRUTH)
-
-
-def eq(left, right):
-    return (True, left, right)
-
-
-def ne(left, right):
-    return (False, left, right)
 
 
 class FactoringsTest(unittest.TestCase):

@@ -7,23 +7,7 @@ from lastproof.terms.literals import clause_variables, same
 from lastproof.terms.substitutions import put_clause
 from tests.formula_samples import random_world, uses_of_clauses
 from tests.plain_conclusions import naive_part_of, small_clause
-from tests.samples import A, B, PART, TRUTH, f, g, p, q, random_clause
-
-
-def yes(term):
-    return (True, term, TRUTH)
-
-
-def no(term):
-    return (False, term, TRUTH)
-
-
-def eq(left, right):
-    return (True, left, right)
-
-
-def ne(left, right):
-    return (False, left, right)
+from tests.samples import A, B, PART, TRUTH, eq, f, ne, no, p, q, random_clause, yes
 
 
 class PartsTest(unittest.TestCase):

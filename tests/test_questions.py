@@ -4,17 +4,9 @@ import unittest
 from lastproof.derivations.questions import answers, question_axiom, sought
 from lastproof.derivations.steps import check, refutes
 from tests.formula_samples import parsed
-from tests.samples import A, B, TRUTH, f, g, p, q
+from tests.samples import A, B, f, g, no, p, q, yes
 
 R = (1, 2, 0)
-
-
-def yes(term):
-    return (True, term, TRUTH)
-
-
-def no(term):
-    return (False, term, TRUTH)
 
 
 def atom(term):

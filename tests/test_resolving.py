@@ -7,19 +7,7 @@ from lastproof.terms.literals import clause_variables, is_well_formed, renumbere
 from lastproof.terms.substitutions import put_clause
 from tests.formula_samples import random_world, uses_of_clauses
 from tests.plain_conclusions import as_tuples, naive_resolutions, small_clause
-from tests.samples import A, B, F, TRUTH, f, g, p, q
-
-
-def yes(term):
-    return (True, term, TRUTH)
-
-
-def no(term):
-    return (False, term, TRUTH)
-
-
-def ne(left, right):
-    return (False, left, right)
+from tests.samples import A, B, F, TRUTH, f, g, ne, no, p, q, yes
 
 
 class ResolutionsTest(unittest.TestCase):

@@ -6,23 +6,7 @@ from lastproof.simplify.rewriting import Rewriting, rewrite
 from lastproof.terms.substitutions import put
 from tests.formula_samples import random_world, uses_of_clauses
 from tests.plain_conclusions import naive_rewrite, small_clause
-from tests.samples import A, B, F, G, H, P, TRUTH, f, g, p, q
-
-
-def yes(term):
-    return (True, term, TRUTH)
-
-
-def no(term):
-    return (False, term, TRUTH)
-
-
-def eq(left, right):
-    return (True, left, right)
-
-
-def ne(left, right):
-    return (False, left, right)
+from tests.samples import A, B, F, G, H, P, TRUTH, eq, f, g, ne, no, p, q, yes
 
 
 def as_row(found):

@@ -6,25 +6,9 @@ from lastproof.reasoner.settling import first_part, is_lighter, settle
 from lastproof.simplify.rewriting import Rewriting
 from tests.plain_conclusions import naive_part_of, naive_settle, small_clause
 from tests.plain_reasoner import change_tuple
-from tests.samples import A, B, F, TRUTH, f, g, p, q
+from tests.samples import A, B, F, TRUTH, eq, f, g, ne, no, p, q, yes
 
 GIVEN = ("given", 0, 0)
-
-
-def yes(term):
-    return (True, term, TRUTH)
-
-
-def no(term):
-    return (False, term, TRUTH)
-
-
-def eq(left, right):
-    return (True, left, right)
-
-
-def ne(left, right):
-    return (False, left, right)
 
 
 def kept(number, *clause):

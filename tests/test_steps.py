@@ -6,17 +6,9 @@ from lastproof.derivations.steps import check, conclude, refutes, resting
 from lastproof.formulas.meaning import clause_holds
 from lastproof.terms.literals import is_well_formed
 from tests.formula_samples import random_world, uses_of_clauses
-from tests.samples import A, ANSWER, B, F, PART, TRUTH, f, g, p, q, random_clause, random_term, INDIVIDUAL_SYMBOLS
+from tests.samples import A, ANSWER, B, INDIVIDUAL_SYMBOLS, PART, TRUTH, f, g, no, p, q, random_clause, random_term, yes
 
 NOT_TRUTH = (False, TRUTH, TRUTH)
-
-
-def yes(term):
-    return (True, term, TRUTH)
-
-
-def no(term):
-    return (False, term, TRUTH)
 
 
 class GivenTest(unittest.TestCase):

@@ -10,23 +10,7 @@ from lastproof.terms.places import put_at
 from lastproof.terms.substitutions import put_clause
 from tests.formula_samples import random_world, uses_of_clauses
 from tests.plain_conclusions import as_tuples, naive_conditions, naive_superpositions, small_clause
-from tests.samples import A, B, F, G, H, P, TRUTH, f, g, p, q, random_clause
-
-
-def yes(term):
-    return (True, term, TRUTH)
-
-
-def no(term):
-    return (False, term, TRUTH)
-
-
-def eq(left, right):
-    return (True, left, right)
-
-
-def ne(left, right):
-    return (False, left, right)
+from tests.samples import A, B, F, G, P, TRUTH, eq, f, g, ne, no, p, q, random_clause, yes
 
 
 class ActingTest(unittest.TestCase):

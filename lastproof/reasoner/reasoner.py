@@ -20,6 +20,11 @@ class Reasoner:
         self.given = {}
         self.next_number = 0
         self.choices = 0
+        self.forget_clauses()
+        self.turn(weights, given)
+
+    def forget_clauses(self):
+        """Hold no clauses from now on."""
         self.waiting = []
         self.chosen = []
         self.gone = []
@@ -28,7 +33,6 @@ class Reasoner:
         self.active = []
         self.rules = []
         self.heaviness = {}
-        self.turn(weights, given)
 
     def choose(self, number, literal):
         """Choose a waiting clause, with the index of a literal or None. Return the list of the new numbers."""
@@ -162,12 +166,7 @@ class Reasoner:
         self.weights = {symbol: weights[symbol] for symbol in weights}
         self.given = {axiom: list(given[axiom]) for axiom in given}
         left = resting_on(self.everything(), self.given)
-        self.waiting = []
-        self.chosen = []
-        self.gone = []
-        self.active = []
-        self.rules = []
-        self.heaviness = {}
+        self.forget_clauses()
         for kept in left:
             self.let_wait(Kept(kept.number, kept.clause, None, kept.made, kept.changes))
         self.take_given()
