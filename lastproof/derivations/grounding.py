@@ -30,6 +30,16 @@ def plain(formula):
     return (word, left, right)
 
 
+def without_repetitions(literals):
+    """Return a dict of the literals, without the one that never holds."""
+    return {literal: True for literal in literals if literal != -HOLDS}
+
+
+def holds_anyway(literals):
+    """Tell whether one of the literals always holds, or one of two that are opposite."""
+    return HOLDS in literals or any([-literal in literals for literal in literals])
+
+
 class Grounding:
     """The clauses so far, the cells of the tables, and a cell for the value of each ground term and atom.
 
@@ -67,9 +77,9 @@ class Grounding:
 
     def add_clause(self, literals):
         """Add the clause without repetitions, unless it holds anyway."""
-        clause = list({literal: True for literal in literals if literal != -HOLDS})
-        if not any([literal == HOLDS or -literal in clause for literal in clause]):
-            self.clauses.append(clause)
+        clause = without_repetitions(literals)
+        if not holds_anyway(clause):
+            self.clauses.append(list(clause))
 
     def require(self, formula, positive, individuals):
         """Add clauses that say that the plain formula holds, or that it does not hold."""
@@ -119,13 +129,13 @@ class Grounding:
 
     def one_of(self, literals):
         """Return a literal that holds exactly if one of the literals holds."""
-        left = list({literal: True for literal in literals if literal != -HOLDS})
-        if any([literal == HOLDS or -literal in left for literal in left]):
+        left = without_repetitions(literals)
+        if holds_anyway(left):
             return HOLDS
         if len(left) < 2:
-            return left[0] if left else -HOLDS
+            return list(left)[0] if left else -HOLDS
         new = self.new_literal()
-        self.clauses.append([-new] + left)
+        self.clauses.append([-new] + list(left))
         self.clauses.extend([[new, -literal] for literal in left])
         return new
 
