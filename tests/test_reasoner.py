@@ -3,8 +3,9 @@ import random
 import unittest
 
 from lastproof.errors import LastproofError, NoLiteral, NotWaiting, OutOfRange
+from lastproof.reasoner.conclusions import Active
 from lastproof.reasoner.kept import Gone, Kept
-from lastproof.reasoner.reasoner import Reasoner
+from lastproof.reasoner.reasoner import Reasoner, gone_by
 from lastproof.terms.substitutions import put_clause
 from tests.clause_samples import A, B, C, F, NAMES, Compared, clause, given_of, text_of
 from tests.plain_conclusions import small_clause
@@ -202,6 +203,25 @@ class ChoosingTest(ReasonerTest):
         made = self.made({0: ["f(f(?0)) = f(?0) or q(a)"], 1: ["f(?0) = ?0"], 2: ["r(a)"]})
         made.choose_all((0, None), (1, None))
         self.assertEqual(made.gone(), [(0, ("part", 1, {0: f(0)}, (0,)))])
+
+    def test_a_part_that_is_not_lighter(self):
+        # Such a new clause is another form of the earlier one, which is a part of it, too. So a choice ends in step 2
+        # before the earlier clause is looked at, and the rule is tested by itself.
+        made = self.made({0: ["p(?0) or q(?1)"], 1: ["r(a)"]})
+        made.choose(0)
+        for text in ["p(?0) or q(?1)", "q(?0) or p(?1)"]:
+            new = Active({}, Kept(9, clause(text), None, ("given", 0, 0), []))
+            self.assertIsNone(gone_by(new, made.engine.active[0]))
+        made = self.made({0: ["f(?0) = g(?0)"], 1: ["r(a)"]})
+        made.choose(0)
+        new = Active({}, Kept(9, clause("g(?0) = f(?0)"), None, ("given", 0, 0), []))
+        self.assertIsNone(gone_by(new, made.engine.active[0]))
+        # A lighter one of the same number of literals, by its size and by its variables.
+        for text, other in [("p(?0)", "p(f(?0))"), ("p(?0, ?1)", "p(?0, ?0)"), ("p(?0)", "p(a)")]:
+            made = self.made({0: [other], 1: ["r(a)"]})
+            made.choose(0)
+            new = Active({}, Kept(9, clause(text), None, ("given", 0, 0), []))
+            self.assertEqual(gone_by(new, made.engine.active[0]).reason[:2], ("part", 9))
 
     def test_several_earlier_clauses_and_the_order_of_new_ones(self):
         made = self.made({0: ["not p(f(a))"], 1: ["f(b) = b or q(a)"], 2: ["not q(f(c))"], 3: ["not r(a)"], 4: ["f(?0) = ?0"],
